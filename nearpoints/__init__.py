@@ -1,0 +1,1 @@
+"""The shortest and the nearest of the points that two or three whole steps lead to."""

@@ -1,0 +1,67 @@
+"""The calls on one row of steps, told as one list of whole numbers, and their answers, given back as one."""
+
+from nearpoints.row import StepRow
+
+BEGIN = 1
+SHORTEST = 2
+MINIMA = 3
+REDUCED = 4
+HAS = 5
+
+
+class UnknownCall(ValueError):
+    """A call's number that tells no call."""
+
+
+class Reader:
+    """Goes through the list that was handed in, and leaves it as it is."""
+
+    def __init__(self, numbers):
+        self.numbers = numbers
+        self.place = 0
+
+    def is_done(self):
+        return self.place >= len(self.numbers)
+
+    def take_number(self):
+        number = self.numbers[self.place]
+        self.place += 1
+        return number
+
+    def take_row(self):
+        count = self.take_number()
+        row = self.numbers[self.place:self.place + count]
+        self.place += count
+        return row
+
+
+def answer_of_next(row, reader):
+    call = reader.take_number()
+    if call == BEGIN:
+        n = reader.take_number()
+        plus = reader.take_row()
+        minus = reader.take_row()
+        return row.begin(n, plus, minus)
+    if call == SHORTEST:
+        return row.shortest()
+    if call == MINIMA:
+        return row.minima()
+    if call == REDUCED:
+        return row.reduced()
+    if call == HAS:
+        plus = reader.take_row()
+        minus = reader.take_row()
+        return row.has(plus, minus)
+    raise UnknownCall(f"no call has the number {call}")
+
+
+def answers(calls):
+    """For each call, in order: how many numbers are answered, then these."""
+    row = StepRow()
+    reader = Reader(calls)
+    told = []
+    while not reader.is_done():
+        answer = answer_of_next(row, reader)
+        told.append(len(answer))
+        told.extend(answer)
+    return told
