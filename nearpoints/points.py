@@ -29,6 +29,11 @@ def together(steps, times):
     return point
 
 
+def left_over(told, q, point):
+    """What is left of the told numbers once the point is taken off q times."""
+    return [whole - q * number for whole, number in zip(told, point)]
+
+
 def cross(one, other):
     return [
         one[1] * other[2] - one[2] * other[1],
@@ -55,3 +60,10 @@ def times_taken(steps, point):
     if any([product % size != 0 for product in products]):
         return None
     return [product // size for product in products]
+
+
+def lead_to_the_same(steps, others):
+    """Whether the others lead to the same points: to these alone, and, their determinant being as great, to all."""
+    if any([times_taken(steps, other) is None for other in others]):
+        return False
+    return abs(determinant(steps)) == abs(determinant(others))

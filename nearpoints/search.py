@@ -1,23 +1,15 @@
 """The search among the points that steps lead to: the shortest, how long in different ways, the reduced steps."""
 
-from nearpoints.points import cross, determinant, is_forward, length, normals, order, together
+from nearpoints.points import cross, determinant, dot, is_forward, left_over, length, normals, order, together
 
 
-def root_below(number):
-    """The greatest whole number whose square is at most the number."""
-    root = 0
-    while (root + 1) * (root + 1) <= number:
-        root += 1
-    return root
-
-
-def box(bounds):
-    """All rows whose numbers are each, above and below 0, at most as far off as their bound."""
+def box(choices):
+    """All rows that have one number out of each of the choices."""
     rows = [[]]
-    for bound in bounds:
+    for numbers in choices:
         longer = []
         for row in rows:
-            for number in range(-bound, bound + 1):
+            for number in numbers:
                 longer.append(row + [number])
         rows = longer
     return rows
@@ -36,7 +28,7 @@ def shortened(steps):
     lengths together fall with every replacement, so the loop ends.
     """
     current = list(steps)
-    rows = [times for times in box([1 for step in steps]) if any(times)]
+    rows = [times for times in box([[-1, 0, 1] for step in steps]) if any(times)]
     changed = True
     while changed:
         changed = False
@@ -49,19 +41,36 @@ def shortened(steps):
     return current
 
 
-def times_up_to(steps, limit):
-    """How often the steps are taken for each forward point up to this length, in the order of the points.
+def numbers_near(whole, part, most):
+    """All numbers which, times the part, are so near to the whole that the difference's square is at most this.
 
-    How often a step is taken, times the determinant, is the product of its normal and the point; this is at most as
-    great as their lengths allow. So no point is left out, whatever the steps; short steps only make the box small.
+    The walk goes down and up from the quotient, where the difference only grows; so it may stop at the first too far.
     """
-    square = determinant(steps) * determinant(steps)
-    bounds = [root_below(length(normal) * limit // square) for normal in normals(steps)]
-    found = []
-    for times in box(bounds):
-        point = together(steps, times)
-        if is_forward(point) and length(point) <= limit:
-            found.append(times)
+    lowest = whole // part + 1
+    while (whole - part * (lowest - 1)) ** 2 <= most:
+        lowest -= 1
+    highest = whole // part
+    while (whole - part * (highest + 1)) ** 2 <= most:
+        highest += 1
+    return list(range(lowest, highest + 1))
+
+
+def times_near(steps, told, q, limit):
+    """How often the steps are taken for each point which, taken off q times, leaves no more than this length.
+
+    How often a step is taken, times the determinant, is the product of its normal and the point. So the product of the
+    normal and what is left tells how often, and is at most as great as their lengths allow. No point is left out,
+    whatever the steps; short steps only make the box small.
+    """
+    part = q * determinant(steps)
+    choices = [numbers_near(dot(normal, told), part, length(normal) * limit) for normal in normals(steps)]
+    return [times for times in box(choices) if length(left_over(told, q, together(steps, times))) <= limit]
+
+
+def times_up_to(steps, limit):
+    """How often the steps are taken for each forward point up to this length, in the order of the points."""
+    origin = [0 for step in steps]
+    found = [times for times in times_near(steps, origin, 1, limit) if is_forward(together(steps, times))]
     return sorted(found, key=lambda times: order(together(steps, times)))
 
 

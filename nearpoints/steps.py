@@ -7,6 +7,10 @@ SHORTEST = 2
 MINIMA = 3
 REDUCED = 4
 HAS = 5
+SAME = 6
+NEAREST = 7
+WALLS = 8
+JUDGE = 9
 
 
 class UnknownCall(ValueError):
@@ -38,10 +42,7 @@ class Reader:
 def answer_of_next(row, reader):
     call = reader.take_number()
     if call == BEGIN:
-        n = reader.take_number()
-        plus = reader.take_row()
-        minus = reader.take_row()
-        return row.begin(n, plus, minus)
+        return row.begin(reader.take_number(), reader.take_row(), reader.take_row())
     if call == SHORTEST:
         return row.shortest()
     if call == MINIMA:
@@ -49,9 +50,15 @@ def answer_of_next(row, reader):
     if call == REDUCED:
         return row.reduced()
     if call == HAS:
-        plus = reader.take_row()
-        minus = reader.take_row()
-        return row.has(plus, minus)
+        return row.has(reader.take_row(), reader.take_row())
+    if call == SAME:
+        return row.same(reader.take_row(), reader.take_row())
+    if call == NEAREST:
+        return row.nearest(reader.take_number(), reader.take_row(), reader.take_row())
+    if call == WALLS:
+        return row.walls()
+    if call == JUDGE:
+        return row.judge(reader.take_row(), reader.take_row())
     raise UnknownCall(f"no call has the number {call}")
 
 

@@ -1,6 +1,8 @@
 """Tells calls and reads answers, and searches whole boxes of points without any of the program's own code."""
 
 import itertools
+import math
+import operator
 import random
 
 from nearpoints.steps import answers
@@ -36,9 +38,39 @@ def has(point):
     return has_rows(plus, minus)
 
 
+def same_rows(plus, minus):
+    return [6] + two_rows(plus, minus)
+
+
+def same(steps):
+    plus, minus = split([x for step in steps for x in step])
+    return same_rows(plus, minus)
+
+
+def nearest_rows(q, plus, minus):
+    return [7, q] + two_rows(plus, minus)
+
+
+def nearest(told, q):
+    """The call nearest for the place whose numbers are told times q."""
+    plus, minus = split(told)
+    return nearest_rows(q, plus, minus)
+
+
+def judge_rows(plus, minus):
+    return [9] + two_rows(plus, minus)
+
+
+def judge(told):
+    """The call judge for the place whose numbers are told times 2."""
+    plus, minus = split(told)
+    return judge_rows(plus, minus)
+
+
 SHORTEST = [2]
 MINIMA = [3]
 REDUCED = [4]
+WALLS = [8]
 
 
 def ask(*calls):
@@ -103,6 +135,23 @@ def forward(point):
     return next((x for x in point if x != 0), 0) > 0
 
 
+def in_order(points):
+    return sorted(points, key=lambda p: (size(p), [-x for x in p]))
+
+
+def opposite(point):
+    return tuple(-x for x in point)
+
+
+def leads_to(steps):
+    """What tells whether a point is led to: Cramer's rule, with the minors reckoned once."""
+    n = len(steps)
+    whole = det(steps)
+    units = [[int(j == k) for j in range(n)] for k in range(n)]
+    minors = [[det([unit if j == k else step for j, step in enumerate(steps)]) for unit in units] for k in range(n)]
+    return lambda point: all(sum(map(operator.mul, row, point)) % whole == 0 for row in minors)
+
+
 def led_to_in_box(steps):
     """All forward points that are led to and no longer than the longest step, in order."""
     limit = max(size(step) for step in steps)
@@ -113,7 +162,7 @@ def led_to_in_box(steps):
     for point in itertools.product(range(-side, side + 1), repeat=len(steps)):
         if size(point) <= limit and forward(point) and taken(steps, point) is not None:
             found.append(point)
-    return sorted(found, key=lambda p: (size(p), [-x for x in p]))
+    return in_order(found)
 
 
 def shortest_by_search(steps):
@@ -143,6 +192,59 @@ def reduced_by_search(steps):
             and any(abs(det(chosen + [point] + list(more))) == whole
                     for more in itertools.combinations(points, missing))))
     return chosen
+
+
+def away(told, q, point):
+    """The square of the distance from the place, times q times q."""
+    return sum((t - q * x) ** 2 for t, x in zip(told, point))
+
+
+def nearest_by_search(steps, told, q):
+    """The square of the distance, times q times q, and the nearest points, in order.
+
+    The box about the place grows until a point in it is no further off than its sides: what is outside is further.
+    """
+    is_led_to = leads_to(steps)
+    side = 1
+    while True:
+        ranges = [range(t // q - side, t // q + side + 2) for t in told]
+        found = [point for point in itertools.product(*ranges) if is_led_to(point)]
+        least = min([away(told, q, point) for point in found], default=None)
+        if least is not None and least <= (q * side) ** 2:
+            return least, in_order(point for point in found if away(told, q, point) == least)
+        side += 1
+
+
+def judge_by_search(steps, told):
+    return int(nearest_by_search(steps, told, 2)[0] >= size(told))
+
+
+def walls_by_search(steps):
+    """Each forward point such that all that differ from it by twice a point led to, but its opposite, are longer.
+
+    The half of a wall is as near to the origin as to any point. Each place is so near to some point that four times
+    the square of the distance is at most the lengths of the steps together; so no wall is longer than these.
+    """
+    limit = sum(size(step) for step in steps)
+    side = math.isqrt(limit)
+    is_led_to = leads_to(steps)
+    box = itertools.product(range(-side, side + 1), repeat=len(steps))
+    beside = {}
+    for point in box:
+        if size(point) <= limit and is_led_to(point):
+            beside.setdefault(tuple(often % 2 for often in taken(steps, point)), []).append(point)
+    found = []
+    for points in beside.values():
+        for v in points:
+            if forward(v) and all(size(w) > size(v) or w in (v, opposite(v)) for w in points):
+                found.append(v)
+    return in_order(found)
+
+
+def some_places(n, count, most, seed):
+    """Told numbers, the same ones every time."""
+    source = random.Random(seed)
+    return [[source.randint(-most, most) for _ in range(n)] for _ in range(count)]
 
 
 def some_steps(n, count, most, seed):
